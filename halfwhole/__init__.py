@@ -1,0 +1,1 @@
+"""A pinball table, layer j: memory."""
