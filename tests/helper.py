@@ -143,6 +143,12 @@ def some_content(seed):
     )
 
 
+# Two contents, and halves that hold none.
+OLD = content(audits=[1] * 8)
+NEW = content(audits=[2] * 8, levels=[0x1, 0x20, 0x300, 0x4000])
+EMPTY = [0] * 256
+JUNK = [(n * 13 + 1) % 256 for n in range(256)]
+
 # Right contents that lie just inside the document's edges.
 RIGHT = {
     "plain": content(),

@@ -45,11 +45,12 @@ class TextTest(unittest.TestCase):
     def test_names_are_the_programs_own_or_allowed(self):
         for path in FILES:
             tree = ast.parse(path.read_text())
-            bound = {node.id for node in ast.walk(tree) if isinstance(node, ast.Name) and isinstance(node.ctx, ast.Store)}
+            names = [node for node in ast.walk(tree) if isinstance(node, ast.Name)]
+            bound = {node.id for node in names if isinstance(node.ctx, ast.Store)}
             bound |= {node.name for node in ast.walk(tree) if isinstance(node, (ast.FunctionDef, ast.ClassDef))}
             bound |= {node.arg for node in ast.walk(tree) if isinstance(node, ast.arg)}
             bound |= {name.name for node in ast.walk(tree) if isinstance(node, ast.ImportFrom) for name in node.names}
-            used = {node.id for node in ast.walk(tree) if isinstance(node, ast.Name)}
+            used = {node.id for node in names}
             self.assertEqual(sorted(used - bound - set(ALLOWED)), [], path)
             self.assertEqual(sorted(bound & set(dir(builtins))), [], path)
 

@@ -1,12 +1,11 @@
 import random
 import unittest
 
-from helper import (MARK, MAX32, READ, RIGHT, WRONG, ask, content, crc, is_right, packed, read_of, save, sealed,
-                    some_content, whole)
+from helper import (EMPTY, MARK, MAX32, READ, RIGHT, WRONG, ask, content, crc, is_right, packed, read_of, save,
+                    sealed, some_content, whole)
 
 FIRST = content(audits=[1] * 8, levels=[0x100, 0x200])
 SECOND = content(audits=[2] * 8, setup=(9, 9, 0, 1, 1, 100000))
-EMPTY = [0] * 256
 PADDING = [69, 70, 71, 76, 77, 78, 79] + [112 + 16 * entry + place for entry in range(8) for place in range(11, 16)]
 
 

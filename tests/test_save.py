@@ -1,12 +1,8 @@
 import unittest
 
-from helper import MAX32, READ, RIGHT, ask, content, load, plan, save, some_content, whole, writes_to
+from helper import (EMPTY, JUNK, MAX32, NEW, OLD, READ, RIGHT, ask, load, plan, save, some_content, whole,
+                    writes_to)
 from halfwhole.memory import Memory
-
-OLD = content(audits=[1] * 8)
-NEW = content(audits=[2] * 8, levels=[0x1, 0x20, 0x300, 0x4000])
-EMPTY = [0] * 256
-JUNK = [(n * 13 + 1) % 256 for n in range(256)]
 
 
 class SaveTest(unittest.TestCase):
