@@ -8,6 +8,9 @@ LOAD = 1
 READ = 2
 PLAN = 3
 SAVE = 4
+CUT = 5
+BYTES_OF = 6
+CRC = 7
 
 DONE = 0
 NOT_512 = -1
@@ -197,6 +200,13 @@ def writes_over(old, new):
     return writes
 
 
+def writes_until_cut(writes, k, x):
+    done = writes[:k]
+    if k < len(writes):
+        done.append((writes[k][0], x))
+    return done
+
+
 class Plan:
     def __init__(self, octets, content):
         read = half_read(octets)
@@ -234,28 +244,49 @@ class Memory:
         if not is_right(content):
             return [NOT_RIGHT]
         planned = Plan(self.octets, content)
-        for place, octet in planned.writes:
-            self.octets[planned.half * HALF_SIZE + place] = octet
+        self.write(planned.half, planned.writes)
         return [DONE, planned.half]
+
+    def cut(self, content, k, x):
+        if not is_right(content):
+            return [NOT_RIGHT]
+        planned = Plan(self.octets, content)
+        self.write(planned.half, writes_until_cut(planned.writes, k, x))
+        return [DONE, planned.half]
+
+    def bytes_of(self):
+        return [DONE] + self.octets
+
+    def write(self, half, writes):
+        for place, octet in writes:
+            self.octets[half * HALF_SIZE + place] = octet
 
 
 def call_size(calls, place):
-    if calls[place] == READ:
+    if calls[place] in (READ, BYTES_OF):
         return 1
-    if calls[place] in (LOAD, PLAN, SAVE):
+    if calls[place] in (LOAD, PLAN, SAVE, CRC):
         return 2 + calls[place + 1]
+    if calls[place] == CUT:
+        return 4 + calls[place + 3]
     raise UnknownCall("no such call")
 
 
 def answer_to(call, memory):
-    row = call[2:]
     if call[0] == LOAD:
-        return memory.load(row)
+        return memory.load(call[2:])
     if call[0] == READ:
         return memory.read()
     if call[0] == PLAN:
-        return memory.plan(row)
-    return memory.save(row)
+        return memory.plan(call[2:])
+    if call[0] == SAVE:
+        return memory.save(call[2:])
+    if call[0] == CUT:
+        # A call's whole numbers stand before its row.
+        return memory.cut(call[4:], call[1], call[2])
+    if call[0] == BYTES_OF:
+        return memory.bytes_of()
+    return [DONE, crc_of(call[2:])]
 
 
 def answers(calls):

@@ -44,7 +44,7 @@ def with_entry(place, entry, score=0x500):
 def crc(octets):
     """The CRC-32C as one long division, not as the document's steps: bits turned round, polynomial 11EDC6F41H."""
     bits = "".join(f"{octet:08b}"[::-1] for octet in octets)
-    rest = (int(bits, 2) << 32) ^ (MAX32 << len(bits))
+    rest = (int("0" + bits, 2) << 32) ^ (MAX32 << len(bits))
     while rest.bit_length() > 32:
         rest ^= 0x11EDC6F41 << (rest.bit_length() - 33)
     return int(f"{rest:032b}"[::-1], 2) ^ MAX32
@@ -58,6 +58,13 @@ def packed(told):
     for place in range(15 + count, 47 + count, 4):
         octets += struct.pack("<Q3B5x", *told[place:place + 4])
     return octets
+
+
+def unpacked(octets):
+    """The content that 240 bytes tell, be it right or not."""
+    numbers = struct.unpack("<8Q5B3xI4x4Q" + "Q3B5x" * 8, bytes(octets))
+    levels = [level for level in numbers[14:18] if level]
+    return [*numbers[:14], len(levels), *levels, *numbers[18:]]
 
 
 def sealed(number, octets):
@@ -76,6 +83,7 @@ def load(octets):
 
 
 READ = [2]
+BYTES_OF = [6]
 
 
 def plan(told):
@@ -84,6 +92,14 @@ def plan(told):
 
 def save(told):
     return [4, len(told)] + list(told)
+
+
+def cut(told, k, x):
+    return [5, k, x, len(told)] + list(told)
+
+
+def sum_of(octets):
+    return [7, len(octets)] + list(octets)
 
 
 def ask(*calls):
@@ -107,6 +123,19 @@ def writes_to(old, new):
     for place in [*range(4, 256), 1, 2, 3, 0]:
         writes += [place, new[place]]
     return writes
+
+
+def cut_off(writes, k, x):
+    """The writes, by the document, that are done where the power goes behind k of them with x."""
+    return writes[:2 * k] + [*writes[2 * k:2 * k + 1], x][:len(writes[2 * k:])]
+
+
+def written(octets, half, writes):
+    """These 512 bytes behind these writes."""
+    octets = list(octets)
+    for place, octet in zip(writes[::2], writes[1::2], strict=True):
+        octets[256 * half + place] = octet
+    return octets
 
 
 def is_score(number):
@@ -141,6 +170,65 @@ def some_content(seed):
         levels=sorted(levels),
         best=[(score, *source.choices(b" ABCXYZ", k=3)) for score in sorted(scores, reverse=True)],
     )
+
+
+class Model:
+    """The document's words once more, told apart from the program: what each call answers, and the bytes behind it."""
+
+    def __init__(self):
+        self.octets = [0] * 512
+
+    def half(self, place):
+        return self.octets[256 * place:256 * place + 256]
+
+    def number(self, place):
+        return int.from_bytes(self.half(place)[4:8], "little")
+
+    def content(self, place):
+        return unpacked(self.half(place)[8:248])
+
+    def is_whole(self, place):
+        if self.half(place)[:4] != list(MARK):
+            return False
+        told = self.content(place)
+        return is_right(told) and self.half(place) == whole(self.number(place), told)
+
+    def half_read(self):
+        found = [place for place in (0, 1) if self.is_whole(place)]
+        if len(found) == 2:
+            return int((self.number(0) + 1) % 2 ** 32 == self.number(1))
+        return found[0] if found else None
+
+    def planned(self, told):
+        place = self.half_read()
+        half = 0 if place is None else 1 - place
+        number = 0 if place is None else (self.number(place) + 1) % 2 ** 32
+        return half, writes_to(self.half(half), whole(number, told))
+
+    def read(self):
+        place = self.half_read()
+        return [-4] if place is None else [0, place, *self.content(place)]
+
+    def answer(self, call):
+        if call[0] == 1:
+            if call[1] == 512:
+                self.octets = call[2:]
+            return [0] if call[1] == 512 else [-1]
+        if call[0] == 2:
+            return self.read()
+        if call[0] == 6:
+            return [0, *self.octets]
+        if call[0] == 7:
+            return [0, crc(call[2:])]
+        told = call[4:] if call[0] == 5 else call[2:]
+        if not is_right(told):
+            return [-8]
+        half, writes = self.planned(told)
+        if call[0] == 3:
+            return [0, half, *writes]
+        done = cut_off(writes, call[1], call[2]) if call[0] == 5 else writes
+        self.octets = written(self.octets, half, done)
+        return [0, half]
 
 
 # Two contents, and halves that hold none.
